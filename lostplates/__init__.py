@@ -1,0 +1,1 @@
+"""Lostplates: letterboxes without names, and what letters put by guess tell."""
