@@ -1,6 +1,6 @@
 """What several modules ask of the values that they are passed."""
 
-from lostplates.errors import InvalidOrder
+from lostplates.errors import InvalidBox, InvalidNumber, InvalidOrder, UnknownName
 
 LETTERS = "abcdefghijklmnopqrstuvwxyz"
 PATTERN_SIGNS = "abcdefghijklmnopqrstuvwxyz."
@@ -24,10 +24,35 @@ def is_pattern(text):
     return consists_of(text, PATTERN_SIGNS)
 
 
+def is_number(number, least, most):
+    """Whether a value is an integer within limits."""
+    # Python counts True and False among the integers, the document does not.
+    return isinstance(number, int) and not isinstance(number, bool) and least <= number <= most
+
+
 def is_box(box, boxes):
     """Whether a value is a box of a house with so many boxes."""
-    # Python counts True and False among the integers, the document does not.
-    return isinstance(box, int) and not isinstance(box, bool) and 0 <= box < boxes
+    return is_number(box, 0, boxes - 1)
+
+
+def is_letter(house, letter):
+    """Whether a value is a letter: a tuple of a name and a box of the house."""
+    return (
+        isinstance(letter, tuple)
+        and len(letter) == 2
+        and letter[0] in house.names
+        and is_box(letter[1], len(house))
+    )
+
+
+def are_two_names(house, pair):
+    """Whether a tuple is one of two different names of the house."""
+    return (
+        len(pair) == 2
+        and pair[0] in house.names
+        and pair[1] in house.names
+        and pair[0] != pair[1]
+    )
 
 
 def is_order(house, order):
@@ -42,3 +67,18 @@ def is_order(house, order):
 def check_order(house, order):
     if not is_order(house, order):
         raise InvalidOrder("this is no order of the house")
+
+
+def check_name(house, name):
+    if name not in house.names:
+        raise UnknownName("no household of the house has this name")
+
+
+def check_box(house, box):
+    if not is_box(box, len(house)):
+        raise InvalidBox("the house has no such box")
+
+
+def check_number(number, least, most):
+    if not is_number(number, least, most):
+        raise InvalidNumber("the number is out of its range")

@@ -101,6 +101,40 @@ class NamesTest(unittest.TestCase):
                 self.assertLessEqual(names, LIBRARY[node.module], name)
                 self.assertEqual([alias.asname for alias in node.names if alias.asname], [])
 
+    def test_each_import_names_the_file_that_defines_the_name(self):
+        defined = {
+            f"lostplates.{name[:-3]}": {
+                getattr(node, "name", None) or getattr(node.targets[0], "id", None)
+                for node in tree.body if isinstance(node, (ast.FunctionDef, ast.ClassDef, ast.Assign))
+            }
+            for name, tree in trees()
+        }
+        for name, node in nodes(ast.ImportFrom):
+            if node.module.startswith("lostplates."):
+                self.assertLessEqual({alias.name for alias in node.names}, defined[node.module], name)
+
+    def test_no_two_files_import_from_each_other(self):
+        left = {name: set() for name, _ in trees()}
+        for name, node in nodes(ast.ImportFrom):
+            left[name].add(node.module.replace("lostplates.", "") + ".py")
+        while left:
+            free = [name for name, others in left.items() if not others & set(left)]
+            self.assertNotEqual(free, [], left)
+            for name in free:
+                del left[name]
+
+    def test_imports_are_used(self):
+        for name, tree in trees():
+            used = {node.id for node in ast.walk(tree) if isinstance(node, ast.Name)}
+            imports = [alias.name for node in tree.body if isinstance(node, ast.ImportFrom) for alias in node.names]
+            self.assertEqual([word for word in imports if word not in used], [], name)
+
+    def test_generators_have_names_of_their_own(self):
+        functions = [node for _, node in nodes(ast.FunctionDef)]
+        made = [node.name for node in functions if any(isinstance(part, ast.Yield) for part in ast.walk(node))]
+        bound = [word for _, tree in trees() for word in bound_names(tree) if word in made]
+        self.assertEqual(sorted(bound), sorted(made))
+
     def test_builtins(self):
         for name, node in nodes(ast.Name):
             if hasattr(builtins, node.id):
@@ -145,6 +179,25 @@ class SyntaxTest(unittest.TestCase):
         for name, node in nodes(ast.Call):
             if isinstance(node.func, ast.Name) and node.func.id in LIST_TAKERS:
                 self.assertEqual([arg for arg in node.args if isinstance(arg, ast.GeneratorExp)], [], name)
+
+    def test_sets_are_only_measured_sorted_and_asked(self):
+        self.assertEqual(self.sets_in_other_places(), [])
+
+    def sets_in_other_places(self):
+        """All files with a set that is no argument of `len` or `sorted`, without keywords, and not behind `in`."""
+        found = []
+        for name, tree in trees():
+            right = []
+            for node in ast.walk(tree):
+                if isinstance(node, ast.Call) and isinstance(node.func, ast.Name) and not node.keywords:
+                    right += node.args if node.func.id in ("len", "sorted") else []
+                if isinstance(node, ast.Compare) and isinstance(node.ops[-1], (ast.In, ast.NotIn)):
+                    right.append(node.comparators[-1])
+            for node in ast.walk(tree):
+                called = isinstance(node, ast.Call) and isinstance(node.func, ast.Name) and node.func.id == "set"
+                if (called or isinstance(node, (ast.Set, ast.SetComp))) and node not in right:
+                    found.append((name, node.lineno))
+        return found
 
     def test_no_sort_in_place(self):
         self.assertEqual([name for name, node in nodes(ast.Attribute) if node.attr == "sort"], [])
