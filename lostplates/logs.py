@@ -40,7 +40,7 @@ def possible_by(house, log):
     return left
 
 
-def orders_left(house, log):
+def possible_orders(house, log):
     """All orders that are possible by a log that is known to be right, one at least."""
     left = possible_by(house, log)
     if len(left) == 0:
@@ -57,7 +57,7 @@ def possible(house, log):
 def surely_behind(house, log):
     """A dict from all names that live behind the same box in all possible orders to this box."""
     check_log(house, log)
-    left = orders_left(house, log)
+    left = possible_orders(house, log)
     first = left[0]
     return {name: first[at] for at, name in enumerate(house.names) if len({order[at] for order in left}) == 1}
 
@@ -65,7 +65,7 @@ def surely_behind(house, log):
 def surely_free(house, log):
     """All boxes, ascending, that are nobody's in all possible orders."""
     check_log(house, log)
-    left = orders_left(house, log)
+    left = possible_orders(house, log)
     return [box for box in range(len(house)) if not any([box in order for order in left])]
 
 
@@ -85,7 +85,7 @@ def fate(house, log, index):
     check_log(house, log)
     if not is_number(index, 0, len(log) - 1):
         raise UnknownEntry("the log has no tuple with this index")
-    left = orders_left(house, log)
+    left = possible_orders(house, log)
     name, box = log[index][:2]
     return sorted({word_of(house, order, name, box) for order in left})
 
@@ -95,7 +95,7 @@ def chance(house, log, name, box):
     check_log(house, log)
     check_name(house, name)
     check_box(house, box)
-    left = orders_left(house, log)
+    left = possible_orders(house, log)
     at = house.names.index(name)
     many = len([order for order in left if order[at] == box])
     shared = gcd(many, len(left))

@@ -5,7 +5,7 @@ from itertools import combinations
 from lostplates.checks import check_number, check_order
 from lostplates.errors import TooMany
 from lostplates.letters import all_letters, answer_of
-from lostplates.logs import check_log, orders_left
+from lostplates.logs import check_log, possible_orders
 from lostplates.ordering import orders
 
 MOST_POSSIBLE = 24
@@ -59,7 +59,7 @@ def most_left(house, some, letter):
 def next_letter(house, log):
     """The first letter whose answer leaves the fewest possible orders in the worst case."""
     check_log(house, log)
-    left = orders_left(house, log)
+    left = possible_orders(house, log)
     return min(all_letters(house), key=lambda letter: most_left(house, left, letter))
 
 
@@ -121,7 +121,7 @@ def any_told(splits, most, columns, known):
 def fewest_letters(house, log):
     """How many more letters are needed in the worst case until all possible orders are alike."""
     check_log(house, log)
-    left = orders_left(house, log)
+    left = possible_orders(house, log)
     if len(left) > MOST_POSSIBLE:
         raise TooMany("too many orders are possible")
     columns = columns_of(house, left)
@@ -143,7 +143,7 @@ def fewest_at_once(house, log, most):
     """The shortest tuple of letters whose answers together leave only orders that are alike, or None."""
     check_log(house, log)
     check_number(most, 0, MOST_AT_ONCE)
-    columns = columns_of(house, orders_left(house, log))
+    columns = columns_of(house, possible_orders(house, log))
     letters = all_letters(house)
     for count in range(most + 1):
         for places in combinations(range(len(letters)), count):
@@ -160,7 +160,7 @@ def seen_behind(order, boxes):
 def fewest_doors(house, log):
     """The shortest tuple of boxes such that who lives behind them tells all possible orders apart."""
     check_log(house, log)
-    left = orders_left(house, log)
+    left = possible_orders(house, log)
     for count in range(len(house)):
         for boxes in combinations(range(len(house)), count):
             if len({seen_behind(order, boxes) for order in left}) == len(left):

@@ -5,7 +5,7 @@ from itertools import permutations
 from lostplates.checks import check_name, check_order, is_box
 from lostplates.errors import InvalidRow
 from lostplates.letters import word_of
-from lostplates.logs import check_log, orders_left
+from lostplates.logs import check_log, possible_orders
 
 
 def check_row(house, row):
@@ -52,7 +52,7 @@ def best_row(house, log, name):
     check_log(house, log)
     check_name(house, name)
     # Many orders do the same with letters for one name: there are fewer cases than orders.
-    counts = words_counted(house, orders_left(house, log), name)
+    counts = words_counted(house, possible_orders(house, log), name)
     best = None
     for row in permutations(range(len(house))):
         count = sum([many for words, many in counts.items() if is_kept(words, row)])

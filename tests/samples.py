@@ -76,6 +76,19 @@ def told_answer(house, order, name, box):
     return {"back": len(boxes) - 1}.get(word)
 
 
+def told_put(house, order, name, box):
+    """What point 19 says of one letter: the house behind it, its word, and how often it was handed on."""
+    boxes, word = told_way(house, order, name, box)
+    manners = house.manners
+    who = {order[at]: other for at, other in enumerate(house.names)}
+    for place in boxes[:-1]:
+        if word in ("kept", "back"):
+            guess = dict(zip(house.names, manners[who[place]]))
+            guess[name] = boxes[-1] if word == "kept" else None
+            manners[who[place]] = tuple(guess.values())
+    return House(house.names, house.plates, manners), word, len(boxes) - 1
+
+
 def told_possible(house, log):
     return [order for order in fitting(house) if all(told_answer(house, order, *put) == told for *put, told in log)]
 

@@ -8,7 +8,7 @@ from lostplates.houses import House
 from lostplates.learning import first_kept, settled_after, taught, taught_far
 from tests.example_runner import outcome
 from tests.samples import (
-    NO_BOXES, NO_NAMES, NO_ORDERS, PlateTest, every_letter, every_order, house_of, sample_houses, told_way,
+    NO_BOXES, NO_NAMES, NO_ORDERS, PlateTest, every_letter, every_order, house_of, sample_houses, told_put,
 )
 
 EXAMPLE_LEARNING = """
@@ -45,19 +45,6 @@ def chain(last, **others):
 
 
 STRAIGHT = (0, 1, 2, 3, 4)
-
-
-def told_put(house, order, name, box):
-    """What point 19 says of one letter: the house behind it, its word, and how often it was handed on."""
-    boxes, word = told_way(house, order, name, box)
-    manners = house.manners
-    who = {order[at]: other for at, other in enumerate(house.names)}
-    for place in boxes[:-1]:
-        if word in ("kept", "back"):
-            guess = dict(zip(house.names, manners[who[place]]))
-            guess[name] = boxes[-1] if word == "kept" else None
-            manners[who[place]] = tuple(guess.values())
-    return House(house.names, house.plates, manners), word, len(boxes) - 1
 
 
 def told_round(house, order, letters):
