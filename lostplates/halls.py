@@ -95,8 +95,8 @@ def executed(moment, operation):
         return redone(moment)
     now, past, _ = moment
     action = ACTIONS[operation[0]]
-    args = operation[1:]
-    later, result = action(now, *args)
+    arguments = operation[1:]
+    later, result = action(now, *arguments)
     return (later, past + ((operation, now),), ()), result
 
 

@@ -36,8 +36,9 @@ WRONG_OPERATIONS = [
     (), ("post",), ("post", "ann"), ("post", "ann", 0, 0), ("swap", "ann"), ("swap", "ann", "bob", "bob"), ("shift",),
     ("shift", "ann"), ("shift", "ann", 2, 2), ("teach",), ("teach", True, False), ("keep_as",), ("keep_as", "x", "y"),
     ("fetch",), ("fetch", "x", "y"), ("undo", 1), ("redo", 1), ("undo", "undo"), ("Post", "ann", 0), ("",), ("", 0, 0),
-    ("apply_all", []), ("replay", 0, 0), ("tried_out", [], True), ("history",), ("living",), ("hold",), ("where", "ann"),
-    ("__init__", 0, 0), ("_execute", ("undo",)), (None,), (0, 1), (True,), (("undo",),), (["undo"],), ({},), ["undo"],
+    ("apply_all", []), ("replay", 0, 0), ("tried_out", [], True), ("history",), ("living",), ("hold",),
+    ("where", "ann"), ("__init__", 0, 0), ("_execute", ("undo",)), (None,), (0, 1), (True,),
+    (("undo",),), (["undo"],), ({},), ["undo"],
     ["post", "ann", 0], "undo", "redo", None, 0, {"undo": True}, {},
 ]
 
@@ -387,6 +388,14 @@ class KeepTest(HallTest):
         self.assertEqual(len(hall.history), 9)
         self.assertEqual(hall.history[-1], ("fetch", "x"))
 
+    def test_names_of_operations(self):
+        hall = Hall(trio(), (0, 1))
+        for name in ("undo", "redo", "post", "keepas"):
+            self.assertIs(hall.keep_as(name), False)
+            self.assertEqual(hall.fetch(name), 0)
+        self.check_looks(hall, kept_under=["keepas", "post", "redo", "undo"])
+        self.assertEqual(len(hall.history), 8)
+
     def test_what_was_kept_last(self):
         hall = Hall(trio(), (0, 1))
         hall.apply_all([("keep_as", "x"), ("post", "ann", 1), ("shift", "ann", 2), ("keep_as", "x")])
@@ -569,8 +578,9 @@ class ApplyAllTest(HallTest):
 
     def test_an_error_in_the_middle(self):
         failing = [
-            (("post", "cat", 0), UnknownName), (("post", "ann", True), InvalidBox), (("swap", "ann", "ann"), UnknownName),
-            (("shift", "ann", 3), InvalidBox), (("shift", "bob", 1), TakenBox), (("keep_as", "X"), InvalidName),
+            (("post", "cat", 0), UnknownName), (("post", "ann", True), InvalidBox),
+            (("swap", "ann", "ann"), UnknownName), (("shift", "ann", 3), InvalidBox),
+            (("shift", "bob", 1), TakenBox), (("keep_as", "X"), InvalidName),
             (("fetch", "y"), UnknownKept),
         ]
         ahead = [("undo",), ("teach", True), ("shift", "ann", 2), ("post", "bob", 2), ("keep_as", "x"), ("undo",)]

@@ -7,6 +7,7 @@ import unittest
 from pathlib import Path
 
 import lostplates
+from lostplates import errors
 
 PACKAGE = Path(lostplates.__file__).parent
 
@@ -198,6 +199,10 @@ class SyntaxTest(unittest.TestCase):
                 if (called or isinstance(node, (ast.Set, ast.SetComp))) and node not in right:
                     found.append((name, node.lineno))
         return found
+
+    def test_only_own_errors_are_caught(self):
+        for name, node in nodes(ast.ExceptHandler):
+            self.assertTrue(issubclass(getattr(errors, node.type.id), errors.PlateError), name)
 
     def test_no_sort_in_place(self):
         self.assertEqual([name for name, node in nodes(ast.Attribute) if node.attr == "sort"], [])

@@ -97,7 +97,8 @@ class BeginningTest(WatchTest):
         watch = Watch(trio(), [("ann", 0, 0)], "bob", 0)
         self.check_looks(watch, ((1, 0), (2, 0)), (0,), None, [], ["kept"])
         watch = Watch(trio(), [], "ann", 1)
-        self.check_looks(watch, ((0, 1), (0, 2), (1, 0), (1, 2), (2, 0), (2, 1)), (1,), None, [], ["back", "kept", "lies"])
+        every = ((0, 1), (0, 2), (1, 0), (1, 2), (2, 0), (2, 1))
+        self.check_looks(watch, every, (1,), None, [], ["back", "kept", "lies"])
 
     def test_parameters_by_keyword(self):
         watch = Watch(house=trio(), log=[("ann", 0, 0)], name="bob", box=0)
